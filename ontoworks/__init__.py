@@ -1,0 +1,1 @@
+"""Ontoworks: ontologies, and from which sets of axioms a question follows."""
