@@ -42,7 +42,11 @@ class Cursor:
         self.step()
         return word
 
+    def here(self):
+        """Return the pair (line, column) of the next token."""
+        return place(self.text, self.tokens[self.at][2])
+
     def fail(self, reason):
         """Raise FaultyText with a reason about the next token."""
-        line, column = place(self.text, self.tokens[self.at][2])
+        line, column = self.here()
         raise FaultyText(line, column, reason)

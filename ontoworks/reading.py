@@ -6,11 +6,17 @@ from ontoworks.grammar import concept, item, question, statement
 
 def read_source(text):
     """Return the items of a source, a tuple."""
+    return tuple([tree for _, tree in read_placed(text)])
+
+
+def read_placed(text):
+    """Return the items of a source, a tuple of pairs: the place (line, column) of its first token, and the item."""
     cursor = Cursor(text)
-    items = []
+    placed = []
     while not cursor.at_end():
-        items.append(item(cursor))
-    return tuple(items)
+        start = cursor.here()
+        placed.append((start, item(cursor)))
+    return tuple(placed)
 
 
 def read_item(text):

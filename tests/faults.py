@@ -2,6 +2,16 @@
 
 from ontoworks.errors import FaultyText
 
+# The source of point 2.
+EXAMPLE = """concept person, parent, mother;
+role child;
+individual ann, bob;
+axiom parents: parent equals person and some child person;
+axiom mothers: mother below parent;
+axiom first: ann is mother;
+axiom second: bob is person;
+"""
+
 
 def fault(function, text):
     """Return (line, column, reason) of the FaultyText that a function raises for a text, or None if it raises none."""

@@ -15,6 +15,21 @@ INTERFACE = {
     "ontoworks.printing": {
         "print_concept": ["concept"], "print_statement": ["statement"], "print_question": ["question"],
         "print_source": ["items"]},
+    "ontoworks.checking": {"problems": ["text"]},
+    "ontoworks.resolving": {
+        "opened": ["text"], "core_concept": ["names", "concept"], "core_question": ["names", "question"],
+        "parts": ["names", "statement"], "question_of": ["names", "axioms", "text"],
+        "statement_of": ["names", "axioms", "text"], "concept_of": ["names", "axioms", "text"],
+        "axiom_of": ["names", "axioms", "text"]},
+    "ontoworks.diagrams": {
+        "variable": ["number"], "negation": ["condition"], "both": ["first", "second"], "either": ["first", "second"],
+        "restricted": ["condition", "number", "yes"], "chosen": ["condition", "number"],
+        "renumbered": ["condition", "numbers"], "holds": ["condition", "members"], "asks": ["condition"],
+        "size": ["condition"], "ways": ["condition", "count"]},
+    "ontoworks.atoms": {
+        "atoms": ["ontology", "questions"], "value": ["all_atoms", "held", "concept"],
+        "above": ["ontology", "members", "role"],
+        "can_have": ["ontology", "members", "all_atoms", "role", "first", "second"]},
 }
 CLASSES = {"FaultyText": ["line", "column", "reason"], "NoSuchAxiom": ["name"], "NoSuchConcept": ["name"],
            "TooLarge": ["count"]}

@@ -1,7 +1,7 @@
 import unittest
 
 from ontoworks.reading import read_concept, read_item, read_question, read_source, read_statement
-from tests.faults import fault, kinds
+from tests.faults import EXAMPLE, fault, kinds
 
 A = ("name", "a")
 B = ("name", "b")
@@ -10,14 +10,6 @@ D = ("name", "d")
 R = ("r", False)
 BACK = ("r", True)
 READERS = (read_source, read_item, read_statement, read_question, read_concept)
-EXAMPLE = """concept person, parent, mother;
-role child;
-individual ann, bob;
-axiom parents: parent equals person and some child person;
-axiom mothers: mother below parent;
-axiom first: ann is mother;
-axiom second: bob is person;
-"""
 
 
 def chain(word, count):
