@@ -16,7 +16,7 @@ def model_of(setting, graph):
     states, links = graph
     reasoner = setting.reasoner
     names = [(atom[1], reasoner.basis.literal(atom, True)) for atom in reasoner.atoms if atom[0] == "name"]
-    things = [tuple(sorted([number for number, literal in names if state & literal])) for state in states]
+    things = [tuple(sorted([name for name, literal in names if state & literal])) for state in states]
     facts = [(one, (role, False), other) for _, _, (_, one, role, other) in setting.parts_of("has")]
     found = {}
     for first, role, second in links + facts:

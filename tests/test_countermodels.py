@@ -8,7 +8,7 @@ from ontoworks.search import condition
 from tests.faults import kinds
 from tests.large import counter, crowded
 from tests.plain import (
-    A, ANY, B, C, NONE, R, R_BACK, S, S_BACK, Maker, below, both, every, follows, neg, some, subsets)
+    A, ANY, B, C, NONE, R, R_BACK, S, S_BACK, Maker, below, both, either, every, follows, neg, some, subsets)
 
 
 def used(parts):
@@ -71,6 +71,20 @@ class CounterModelTest(unittest.TestCase):
                      (("is", 0, every(R, B)),)), 2)
         for question in (("has", 0, 0, 1), ("has", 1, 1, 0), ("has", 0, 0, 0), ("has", 1, 0, 1)):
             self.check(ontology, (0, 1, 2, 3, 4), question)
+
+    def test_what_fails_of_a_thing_fails_for_all_that_it_has(self):
+        # What a thing has behind r belongs to one of both, though neither of them is looked for.
+        for role in (R, R_BACK):
+            ontology = ((below(A, every(role, either(B, C))), below(A, some(role, ANY)), (("is", 0, A),)), 1)
+            for question in (("is", 0, B), ("is", 0, every(role, B)), ("below", A, some(role, B)), ("never",)):
+                self.check(ontology, (0, 1, 2), question)
+
+    def test_what_fails_of_an_individual_fails_for_all_that_it_is_said_to_have(self):
+        for role, first, second in ((R, 0, 1), (R_BACK, 1, 0), (S, 0, 1)):
+            ontology = (((("has", 0, 0, 1),), (("is", first, every(role, either(B, C))),), (("under", R, S),)), 2)
+            for question in (("is", second, B), ("is", second, C), ("has", 1, 0, 0), ("is", second, both(B, C))):
+                self.check(ontology, (0, 1, 2), question)
+            self.assertIsNone(counter_model(ontology, (0, 1, 2), ("is", second, either(C, B))))
 
     def test_inverse_roles(self):
         ontology = ((below(A, some(R, B)), below(B, some(R_BACK, C)), below(C, every(R, A)), below(C, neg(A)),

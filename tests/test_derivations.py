@@ -312,6 +312,8 @@ class IsRightTest(unittest.TestCase):
         self.check(False, PAIR, ((1, A), (0, neg(some(R_BACK, A)))), ("role", (), True, A))
         self.check(False, PAIR, ((0, B), (1, neg(some(R_BACK, A)))), ("role", (), True, A))
         self.check(False, PAIR, ((0, A), (1, some(R_BACK, A))), ("role", (), True, A))
+        self.check(False, PAIR, ((0, A), (1, neg(some(R_BACK, A)))), ("role", ((1, 1, False),), True, A))
+        self.check(False, PAIR, ((0, A), (1, neg(some(S_BACK, A)))), ("role", ((9, 0, False),), True, A))
 
     def test_role_needs_a_pair_and_right_steps(self):
         has = ((0, neg(some(S, A))), (1, A))
@@ -365,8 +367,9 @@ class IsRightTest(unittest.TestCase):
         self.check(False, FAMILY, has, ("link", 3, 2, (), False, A))
         self.check(False, FAMILY, has, ("link", 7, 0, (), False, A))
         self.check(False, FAMILY, has, ("link", 2, 0, (), False, A))
-        self.check(False, FAMILY, ((0, neg(some(S, A))), (1, A)), ("link", 3, 0, ((1, 0, False),), False, A),
-                   places=(3,))
+        for backwards, has in ((False, ((0, neg(some(S, A))), (1, A))), (True, ((0, A), (1, neg(some(S_BACK, A)))))):
+            self.check(False, FAMILY, has, ("link", 3, 0, ((1, 0, False),), backwards, A), places=(3,))
+            self.check(True, FAMILY, has, ("link", 3, 0, ((1, 0, False),), backwards, A), places=(1, 3))
 
     def test_values(self):
         self.assertEqual(kinds(is_right(ONTOLOGY, ALL, (), (THING, (), ("clash", 0, A)))), {bool})

@@ -41,6 +41,23 @@ INTERFACE = {
         "is_certain": ["has", "place", "concept", "holds"], "role_behind": ["ontology", "places", "role", "steps"],
         "is_right": ["ontology", "places", "before", "line"], "answers_question": ["question", "line"],
         "check": ["ontology", "places", "question", "derivation"], "named_axioms": ["derivation"]},
+    "ontoworks.explaining": {"explanation": ["ontology", "places", "question"]},
+    "ontoworks.reasons": {
+        "all_reasons": ["condition"], "reasons": ["condition", "taken"], "repairs": ["condition", "taken"],
+        "cheapest_repair": ["condition", "taken", "costs"], "blame": ["condition", "taken"],
+        "shares": ["condition", "taken"], "chance": ["condition", "chances"], "right": ["condition", "chances"]},
+    "ontoworks.groups": {"group": ["axioms", "place"], "module": ["axioms", "question"]},
+}
+METHODS = {
+    "__init__": ["source"], "add": ["text"], "remove": ["name"], "take": ["name", "taken"],
+    "change": ["name", "statement"], "watch": ["question"], "unwatch": ["question"], "back": [], "names": [],
+    "axioms": [], "watched": [], "versions": [], "follows": ["question"], "condition": ["question"],
+    "ways": ["question"], "matters": ["question"], "reasons": ["question"], "all_reasons": ["question"],
+    "repairs": ["question"], "blame": ["question"], "shares": ["question"], "cheapest_repair": ["question", "costs"],
+    "chance": ["question", "chances"], "right": ["question", "chances"], "compare": ["version", "question"],
+    "picture": ["taken"], "relation": ["concept", "other"], "counter_model": ["question"],
+    "check": ["question", "derivation"], "explain": ["question"], "breaks": ["model"], "answers": ["model", "question"],
+    "members": ["model", "concept"], "smaller": ["model"], "named_axioms": ["derivation"],
 }
 CLASSES = {"FaultyText": ["line", "column", "reason"], "NoSuchAxiom": ["name"], "NoSuchConcept": ["name"],
            "TooLarge": ["count"]}
@@ -64,6 +81,13 @@ class InterfaceTest(unittest.TestCase):
                 self.assertTrue(inspect.isfunction(function), name)
                 self.assertEqual(function.__module__, module)
                 self.assertEqual(list(inspect.signature(function).parameters), arguments, name)
+
+    def test_the_methods_of_the_class_are_its_own(self):
+        ontology = import_module("ontoworks.ontology").Ontology
+        self.assertEqual(ontology.__module__, "ontoworks.ontology")
+        for name, arguments in METHODS.items():
+            self.assertTrue(inspect.isfunction(vars(ontology).get(name)), name)
+            self.assertEqual(list(inspect.signature(vars(ontology)[name]).parameters), ["self"] + arguments, name)
 
     def test_arguments_of_the_errors(self):
         module = import_module("ontoworks.errors")
