@@ -54,8 +54,8 @@ def _largest_first(count):
 
 def _answer(reasoner, question, label, answers):
     """Find the answer for a set of axioms, and keep it for all sets for which it tells the answer, too."""
-    axioms = range(len(reasoner.ontology[0]))
-    setting = Setting(reasoner, tuple([place for place in axioms if label >> place & 1]))
+    everything = tuple(range(len(reasoner.ontology[0])))
+    setting = Setting(reasoner, tuple([place for place in everything if label >> place & 1]))
     proof, graph = setting.ask(question)
     if proof is not None:
         needed = proof[0]
@@ -63,8 +63,8 @@ def _answer(reasoner, question, label, answers):
             if needed & ~other == 0:
                 answers[other] = True
         return
-    broken = breaks(model_of(setting, graph), reasoner.ontology, tuple(axioms))
-    kept = label_of(axioms) & ~label_of([fault[0] for fault in broken])
+    broken = breaks(model_of(setting, graph), reasoner.ontology, everything)
+    kept = label_of(everything) & ~label_of([fault[0] for fault in broken])
     for other in range(len(answers)):
         if other & ~kept == 0:
             answers[other] = False
